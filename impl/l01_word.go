@@ -57,6 +57,26 @@ func joinLow[N number](data []byte) N {
 	return n
 }
 
+// spreadLow has no bound of its own: a number from 0 on has its bytes in 8 of them, a word in 4.
+func spreadLow[N number](n N, size int64) []byte {
+	spread := make([]byte, size)
+	for i := range spread {
+		spread[i] = byte(n >> (8 * i))
+	}
+	return spread
+}
+
+func spreadHigh[N number](n N, size int64) []byte {
+	spread := spreadLow(n, size)
+	slices.Reverse(spread)
+	return spread
+}
+
+// turnLeft by nothing shifts by all 32 bits, too, which leaves 0 in Go.
+func turnLeft(word uint32, by int64) uint32 {
+	return word<<by | word>>(wordBits-by)
+}
+
 func fitsIn(n int64, size int64) bool {
 	// size is asked first, because a shift by a size that is not so would panic or lose the bound.
 	if size < 1 || size > maxPacked {
@@ -77,17 +97,14 @@ func PackLow(n int64, size int64) BytesResult {
 	if !fitsIn(n, size) {
 		return BytesResult{Code: ErrRange}
 	}
-	packed := make([]byte, size)
-	for i := range packed {
-		packed[i] = byte(n >> (8 * i))
-	}
-	return BytesResult{Bytes: packed}
+	return BytesResult{Bytes: spreadLow(n, size)}
 }
 
 func PackHigh(n int64, size int64) BytesResult {
-	packed := PackLow(n, size)
-	slices.Reverse(packed.Bytes)
-	return packed
+	if !fitsIn(n, size) {
+		return BytesResult{Code: ErrRange}
+	}
+	return BytesResult{Bytes: spreadHigh(n, size)}
 }
 
 func ReadLow(data []byte) IntResult {
@@ -108,9 +125,7 @@ func TurnWord(word int64, by int64) IntResult {
 	if !isWord(word) || by < 0 || by >= wordBits {
 		return IntResult{Code: ErrRange}
 	}
-	// Turned by nothing, the second shift is by all 32 bits, which leaves 0 in Go.
-	w := uint32(word)
-	return IntResult{Value: int64(w<<by | w>>(wordBits-by))}
+	return IntResult{Value: int64(turnLeft(uint32(word), by))}
 }
 
 func XorBytes(a []byte, b []byte) BytesResult {
