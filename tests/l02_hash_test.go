@@ -7,9 +7,7 @@ import (
 	"crypto/sha256"
 	"encoding/hex"
 	"fmt"
-	"slices"
 	"strings"
-	"sync"
 	"testing"
 
 	"loop.example/g00792/impl"
@@ -308,28 +306,15 @@ func TestKeysOfCodes(t *testing.T) {
 	}
 }
 
-// hashAsks are the functions of the chapter, each of two lists; all lists that one answers with stand one behind the other.
-var hashAsks = map[string]func(a, b []byte) [][]byte{
-	"PadMessage": func(a, b []byte) [][]byte { return [][]byte{impl.PadMessage(b).Bytes} },
-	"HashOf":     func(a, b []byte) [][]byte { return [][]byte{impl.HashOf(b).Bytes} },
-	"MacOf":      func(a, b []byte) [][]byte { return [][]byte{impl.MacOf(a, b).Bytes} },
-	"KeysOf": func(a, b []byte) [][]byte {
-		got := impl.KeysOf(a, b)
+// hashAsks are the functions of the chapter, each of two lists.
+var hashAsks = map[string]asked{
+	"PadMessage": func(lists ...[]byte) [][]byte { return [][]byte{impl.PadMessage(lists[1]).Bytes} },
+	"HashOf":     func(lists ...[]byte) [][]byte { return [][]byte{impl.HashOf(lists[1]).Bytes} },
+	"MacOf":      func(lists ...[]byte) [][]byte { return [][]byte{impl.MacOf(lists[0], lists[1]).Bytes} },
+	"KeysOf": func(lists ...[]byte) [][]byte {
+		got := impl.KeysOf(lists[0], lists[1])
 		return [][]byte{got.First, got.Other}
 	},
-}
-
-// copied is a copy of all these lists.
-func copied(lists [][]byte) [][]byte {
-	var out [][]byte
-	for _, list := range lists {
-		out = append(out, bytes.Clone(list))
-	}
-	return out
-}
-
-func sameLists(a, b [][]byte) bool {
-	return slices.EqualFunc(a, b, bytes.Equal)
 }
 
 // Promise 1: no argument is changed, whether there is an answer or a code.
@@ -337,10 +322,8 @@ func TestHashArgumentsAreKept(t *testing.T) {
 	for name, ask := range hashAsks {
 		for _, keySize := range []int{0, 31, 32, 33, 63, 64, 65} {
 			for _, size := range []int{0, 1, 32, 55, 56, 63, 64, 128, 1000, 1001} {
-				a, b := guard(listOf(keySize, 9, 5)), guard(listOf(size, 1, 3))
-				ask(a.list(), b.list())
-				a.checkKept(t, fmt.Sprintf("%s, first, of %d and %d bytes", name, keySize, size))
-				b.checkKept(t, fmt.Sprintf("%s, second, of %d and %d bytes", name, keySize, size))
+				what := fmt.Sprintf("%s of %d and %d bytes", name, keySize, size)
+				checkArgumentsKept(t, what, ask, listOf(keySize, 9, 5), listOf(size, 1, 3))
 			}
 		}
 	}
@@ -350,25 +333,7 @@ func TestHashArgumentsAreKept(t *testing.T) {
 func TestHashAnswersAreNewMemory(t *testing.T) {
 	for name, ask := range hashAsks {
 		for _, size := range []int{0, 1, 32, 55, 56, 63, 64, 128, 1000} {
-			what := fmt.Sprintf("%s of %d bytes", name, size)
-			a, b := guard(listOf(32, 9, 5)), guard(listOf(size, 1, 3))
-			got := ask(a.list(), b.list())
-			want := copied(got)
-			a.flip()
-			b.flip()
-			if !sameLists(got, want) {
-				t.Errorf("%s: turned with its arguments", what)
-			}
-			a.flip()
-			b.flip()
-			for _, list := range got {
-				flipAll(list)
-			}
-			a.checkKept(t, what+", the answer changed, first")
-			b.checkKept(t, what+", the answer changed, second")
-			if again := ask(a.list(), b.list()); !sameLists(again, want) {
-				t.Errorf("%s: turned with a former answer", what)
-			}
+			checkNewMemory(t, fmt.Sprintf("%s of %d bytes", name, size), ask, listOf(32, 9, 5), listOf(size, 1, 3))
 		}
 	}
 }
@@ -393,29 +358,10 @@ func TestKeysOfSharesNothing(t *testing.T) {
 func TestHashAnswersHangOnArgumentsAlone(t *testing.T) {
 	key, data := listOf(32, 9, 5), listOf(200, 1, 3)
 	for name, ask := range hashAsks {
-		want := ask(key, data)
-		ask(nil, nil)
-		ask(make([]byte, 65), make([]byte, 1001))
-		ask(data[:32], listOf(1000, 7, 7))
-		if !sameLists(ask(key, data), want) {
-			t.Errorf("%s: another answer when asked again", name)
-		}
-		if roomy := guard(data); !sameLists(ask(guard(key).list(), roomy.list()), want) {
-			t.Errorf("%s: another answer with room behind", name)
-		}
-		var wait sync.WaitGroup
-		alike := make([]bool, 8)
-		for i := range alike {
-			wait.Go(func() {
-				alike[i] = true
-				for range 20 {
-					alike[i] = alike[i] && sameLists(ask(key, data), want)
-				}
-			})
-		}
-		wait.Wait()
-		if slices.Contains(alike, false) {
-			t.Errorf("%s: another answer when asked beside others", name)
-		}
+		checkHangsOnArguments(t, name, ask, [][]byte{key, data},
+			[][]byte{nil, nil},
+			[][]byte{make([]byte, 65), make([]byte, 1001)},
+			[][]byte{data[:32], listOf(1000, 7, 7)},
+		)
 	}
 }
