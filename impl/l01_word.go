@@ -35,10 +35,11 @@ const maxPacked = 7
 const wordBits = 32
 const lastWord = 1<<wordBits - 1
 
-// number has both kinds of whole numbers that bytes stand for: those that are
-// compared with bounds, and words, whose reckoning goes round.
+// number has the kinds of whole numbers that bytes stand for: those that are compared
+// with bounds, words, whose reckoning goes round, and those of 8 bytes that may be
+// above the greatest int64.
 type number interface {
-	int64 | uint32
+	int64 | uint32 | uint64
 }
 
 func joinHigh[N number](data []byte) N {
