@@ -3,6 +3,7 @@ package tests
 import (
 	"bytes"
 	"fmt"
+	"iter"
 	"reflect"
 	"slices"
 	"sync"
@@ -168,6 +169,23 @@ func checkHangsOnArguments(t *testing.T, what string, ask asked, lists [][]byte,
 	wait.Wait()
 	if slices.Contains(alike, false) {
 		t.Errorf("%s: another answer when asked beside others", what)
+	}
+}
+
+// checkFaults asks fault of all that have one, and holds that each of these codes is told of some.
+func checkFaults[E any](t *testing.T, faulty iter.Seq2[E, int64], fault func(E) int64, name func(E) string, codes ...int64) {
+	t.Helper()
+	seen := map[int64]int{}
+	for e, want := range faulty {
+		if got := fault(e); got != want {
+			t.Errorf("the fault of %s: %d; want %d", name(e), got, want)
+		}
+		seen[want]++
+	}
+	for _, code := range codes {
+		if seen[code] == 0 {
+			t.Errorf("the code %d is never told: %v", code, seen)
+		}
 	}
 }
 

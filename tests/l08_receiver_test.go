@@ -237,14 +237,7 @@ func noReceivers(yield func(r impl.Receiver, fault int64) bool) {
 }
 
 func TestReceiverFaultOrder(t *testing.T) {
-	seen := map[int64]int{}
-	for r, fault := range noReceivers {
-		wantReceiverFault(t, r)
-		seen[fault]++
-	}
-	if seen[impl.ErrRange] == 0 || seen[impl.ErrMany] == 0 || seen[impl.ErrForm] == 0 {
-		t.Errorf("the codes are told so often: %v", seen)
-	}
+	checkFaults(t, noReceivers, impl.ReceiverFault, receiverName, impl.ErrRange, impl.ErrMany, impl.ErrForm)
 }
 
 // The ReceiverFault is asked ahead of all else, be what is heard a cell or not.

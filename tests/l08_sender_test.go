@@ -322,14 +322,7 @@ func noSenders(yield func(s impl.Sender, fault int64) bool) {
 }
 
 func TestSenderFaultOrder(t *testing.T) {
-	seen := map[int64]int{}
-	for s, fault := range noSenders {
-		wantSenderFault(t, s)
-		seen[fault]++
-	}
-	if seen[impl.ErrRange] == 0 || seen[impl.ErrMany] == 0 || seen[impl.ErrState] == 0 {
-		t.Errorf("the codes are told so often: %v", seen)
-	}
+	checkFaults(t, noSenders, impl.SenderFault, senderName, impl.ErrRange, impl.ErrMany, impl.ErrState)
 }
 
 // The SenderFault is asked ahead of all else, be what is told to a sender wrong or not.
