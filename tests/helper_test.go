@@ -189,6 +189,16 @@ func checkFaults[E any](t *testing.T, faulty iter.Seq2[E, int64], fault func(E) 
 	}
 }
 
+// changesOf has copies of a value by their names: each differs from it in what its turn does alone.
+func changesOf[E any](e E, copied func(E) E) (out map[string]E, change func(name string, turn func(e *E))) {
+	out = map[string]E{}
+	return out, func(name string, turn func(e *E)) {
+		other := copied(e)
+		turn(&other)
+		out[name] = other
+	}
+}
+
 // The helpers below are for functions of any arguments: values are gone through by what they have, however deep.
 
 // remade copies a value; each list in it becomes what list makes of it.

@@ -521,12 +521,7 @@ func anyReceivers() []impl.Receiver {
 
 // changedReceivers differ from r in one thing alone.
 func changedReceivers(r impl.Receiver) map[string]impl.Receiver {
-	out := map[string]impl.Receiver{}
-	change := func(name string, turn func(r *impl.Receiver)) {
-		other := copiedReceiver(r)
-		turn(&other)
-		out[name] = other
-	}
+	out, change := changesOf(r, copiedReceiver)
 	for _, by := range []int64{1, -1, 256, 1 << 32, math.MinInt64} {
 		change(fmt.Sprintf("Next by %d", by), func(r *impl.Receiver) { r.Next += by })
 		for i := range r.Holds {

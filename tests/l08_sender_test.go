@@ -662,12 +662,7 @@ func anySenders() []impl.Sender {
 
 // changedSenders differ from s in one thing alone.
 func changedSenders(s impl.Sender) map[string]impl.Sender {
-	out := map[string]impl.Sender{}
-	change := func(name string, turn func(s *impl.Sender)) {
-		other := copiedSender(s)
-		turn(&other)
-		out[name] = other
-	}
+	out, change := changesOf(s, copiedSender)
 	for _, by := range []int64{1, -1, 256, 1 << 32, math.MinInt64} {
 		change(fmt.Sprintf("Base by %d", by), func(s *impl.Sender) { s.Base += by })
 		for i := range s.Parts {

@@ -366,12 +366,7 @@ func anyEnds() []impl.End {
 
 // changedEnds differ from e in one thing alone.
 func changedEnds(e impl.End) map[string]impl.End {
-	out := map[string]impl.End{}
-	change := func(name string, turn func(e *impl.End)) {
-		other := copiedEnd(e)
-		turn(&other)
-		out[name] = other
-	}
+	out, change := changesOf(e, copiedEnd)
 	for _, by := range []int64{1, -1, 256, 65536, 1 << 32, math.MinInt64} {
 		change(fmt.Sprintf("Slot by %d", by), func(e *impl.End) { e.Slot += by })
 		change(fmt.Sprintf("Bad by %d", by), func(e *impl.End) { e.Bad += by })
