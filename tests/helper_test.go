@@ -256,6 +256,8 @@ func turn(v reflect.Value) {
 		v.SetInt(^v.Int())
 	case reflect.Bool:
 		v.SetBool(!v.Bool())
+	case reflect.String:
+		v.SetString(v.String() + "?")
 	case reflect.Struct:
 		for i := range v.NumField() {
 			turn(v.Field(i))
